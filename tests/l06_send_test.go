@@ -363,19 +363,24 @@ func TestSendIsDone(t *testing.T) {
 	}
 }
 
-// sentAlone sends till the hand is at rest or parked, and tells the places it came by.
-func sentAlone(t *testing.T, c impl.Chan, elem int64) (impl.Chan, impl.Hand, []int64) {
+// doneAlone goes on till the hand is at one of those places, and tells the places it came by.
+func doneAlone(t *testing.T, step stepFunc, c impl.Chan, call impl.Call, ends ...int64) (impl.Chan, impl.Hand, []int64) {
 	t.Helper()
-	h, _ := impl.Called(impl.Resting(0, 0), impl.Call{Code: impl.OpSend, Elem: elem})
+	h, _ := impl.Called(impl.Resting(0, 0), call)
 	var places []int64
-	for h.At != impl.AtRest && h.At != impl.AtPark {
-		next, hand, is := impl.SendStep(c, h)
+	for !slices.Contains(ends, h.At) {
+		next, hand, is := step(c, h)
 		if !is || len(places) > 20 {
 			t.Fatalf("%+v: %v, after %v", h, is, places)
 		}
 		c, h, places = next, hand, append(places, hand.At)
 	}
 	return c, h, places
+}
+
+func sentAlone(t *testing.T, c impl.Chan, elem int64) (impl.Chan, impl.Hand, []int64) {
+	t.Helper()
+	return doneAlone(t, impl.SendStep, c, impl.Call{Code: impl.OpSend, Elem: elem}, impl.AtRest, impl.AtPark)
 }
 
 var (
@@ -506,13 +511,18 @@ func TestTwoSendersInAnyOrder(t *testing.T) {
 	}
 }
 
-func TestSendStepOfWrongChans(t *testing.T) {
+// checkWrongChans asks that each channel that is not right is refused, wherever the hand is.
+func checkWrongChans(t *testing.T, step stepFunc, call impl.Call) {
+	t.Helper()
 	for _, c := range wrongChans() {
-		for at := int64(impl.AtRest); at <= impl.AtMark; at++ {
-			checkRefused(t, impl.SendStep, c, impl.Hand{At: at, Call: aSend})
+		for at := int64(impl.AtSend); at <= impl.AtMark; at++ {
+			checkRefused(t, step, c, impl.Hand{At: at, Call: call})
 		}
+		checkRefused(t, step, c, impl.Resting(0, 0))
 	}
 }
+
+func TestSendStepOfWrongChans(t *testing.T) { checkWrongChans(t, impl.SendStep, aSend) }
 
 // A step that would mend the channel is refused: it was not right before.
 func TestSendStepMendsNothing(t *testing.T) {
@@ -530,48 +540,68 @@ func TestSendStepMendsNothing(t *testing.T) {
 	checkRefused(t, impl.SendStep, c, handAt(impl.AtSend, aSend))
 }
 
-func TestSendStepOfWrongHands(t *testing.T) {
+// checkWrongHands asks that each hand that is not right is refused, at each of those places too.
+func checkWrongHands(t *testing.T, step stepFunc, c impl.Chan, from, to int64, call impl.Call) {
+	t.Helper()
 	for _, h := range wrongHands() {
-		checkRefused(t, impl.SendStep, busyChan(), h)
-		checkRefused(t, impl.SendStep, withCell(busyChan(), 11, impl.Cell{}), h)
+		checkRefused(t, step, c, h)
+		checkRefused(t, step, withCell(c, 11, impl.Cell{}), h)
 	}
-	for at := int64(impl.AtSend); at <= impl.AtDone; at++ {
+	for at := from; at <= to; at++ {
 		for _, p := range handParts()[1:] {
 			for _, n := range p.past() {
-				h := handAt(at, aSend)
+				h := handAt(at, call)
 				p.put(&h, n)
-				checkRefused(t, impl.SendStep, withCell(busyChan(), 11, impl.Cell{State: impl.CsIn}), h)
+				checkRefused(t, step, c, h)
 			}
 		}
 	}
 }
 
-// A hand at rest has no step, nor has one whose place is another chapter's.
-func TestSendStepAtOtherPlaces(t *testing.T) {
+func TestSendStepOfWrongHands(t *testing.T) {
+	c := withCell(busyChan(), 11, impl.Cell{State: impl.CsIn})
+	checkWrongHands(t, impl.SendStep, c, impl.AtSend, impl.AtDone, aSend)
+}
+
+// checkOtherPlaces asks that a hand at rest has no step, nor has one whose place is none of those.
+func checkOtherPlaces(t *testing.T, step stepFunc, from, to int64, call impl.Call) {
+	t.Helper()
 	for _, h := range restHands() {
-		checkRefused(t, impl.SendStep, busyChan(), h)
+		checkRefused(t, step, busyChan(), h)
 	}
-	for at := int64(impl.AtDone + 1); at <= impl.AtMark; at++ {
+	for at := int64(impl.AtSend); at <= impl.AtMark; at++ {
+		if at >= from && at <= to {
+			continue
+		}
 		for _, state := range statesBut() {
-			checkRefused(t, impl.SendStep, withCell(busyChan(), 11, impl.Cell{State: state}), handAt(at, aSend))
+			checkRefused(t, step, withCell(busyChan(), 11, impl.Cell{State: state}), handAt(at, call))
 		}
 	}
 }
 
-func TestSendStepOfAnotherCall(t *testing.T) {
+func TestSendStepAtOtherPlaces(t *testing.T) {
+	checkOtherPlaces(t, impl.SendStep, impl.AtSend, impl.AtDone, aSend)
+}
+
+// checkAnotherCall asks that this Call is refused, whatever was seen, and is there.
+func checkAnotherCall(t *testing.T, step stepFunc, call impl.Call) {
+	t.Helper()
 	for at := int64(impl.AtSend); at <= impl.AtMark; at++ {
 		for _, state := range statesBut() {
 			for _, seen := range statesBut() {
-				h := handAt(at, aRecv)
+				h := handAt(at, call)
 				h.Seen = seen
-				checkRefused(t, impl.SendStep, withCell(busyChan(), 11, impl.Cell{State: state}), h)
+				checkRefused(t, step, withCell(busyChan(), 11, impl.Cell{State: state}), h)
 			}
 		}
 	}
 }
 
-// sendCases lists right channels, and hands at each place of the table, all of which may be asked together.
-func sendCases() ([]impl.Chan, []impl.Hand) {
+func TestSendStepOfAnotherCall(t *testing.T) { checkAnotherCall(t, impl.SendStep, aRecv) }
+
+// stepCases lists right channels, and hands at each of those places with each of those Calls, all
+// of which may be asked together.
+func stepCases(from, to int64, calls ...impl.Call) ([]impl.Chan, []impl.Hand) {
 	var chans []impl.Chan
 	for _, words := range []int{0, 1, impl.MaxWords - 1, impl.MaxWords} {
 		for _, n := range []int64{0, 1, impl.MaxCells - 1, impl.MaxCells} {
@@ -585,29 +615,52 @@ func sendCases() ([]impl.Chan, []impl.Hand) {
 		}
 	}
 	var hands []impl.Hand
-	for at := int64(impl.AtSend); at <= impl.AtDone; at++ {
+	for at := from; at <= to; at++ {
 		for _, seen := range statesBut() {
-			for _, h := range []impl.Hand{handAt(at, aSend), fullHand(), {Call: impl.Call{Code: impl.OpSend}}} {
-				h.At, h.Seen = at, seen
-				hands = append(hands, h)
+			for _, call := range calls {
+				for _, h := range []impl.Hand{handAt(at, call), fullHand(), {}} {
+					h.At, h.Call, h.Seen = at, call, seen
+					hands = append(hands, h)
+				}
 			}
 		}
 	}
 	return chans, hands
 }
 
-// Promise 19: there is an answer, which is right where it is one, or else is zero, and its kind stays.
+func sendCases() ([]impl.Chan, []impl.Hand) {
+	return stepCases(impl.AtSend, impl.AtDone, impl.Call{Code: impl.OpSend}, impl.Call{Code: impl.OpSend, Elem: impl.MaxElem})
+}
+
+// checkKind asks that there is an answer of the kind that is told: a step, which is right and goes
+// on with its Call; or that it waits, with all as it is; or that it is refused, with zero values.
+func checkKind(t *testing.T, step stepFunc, c impl.Chan, h impl.Hand, steps, waits bool) {
+	t.Helper()
+	x, y, is := step(c, h)
+	if is != steps {
+		t.Fatalf("%+v: %v\nchannel %v", h, is, c)
+	}
+	switch {
+	case steps:
+		if !impl.ChanOk(x) || !impl.HandOk(y) || y.At != impl.AtRest && (y.Call != h.Call || y.Begin != h.Begin) {
+			t.Fatalf("%+v: %+v\nchannel %v", h, y, x)
+		}
+	case waits:
+		if y != h || !sameChan(x, c) {
+			t.Fatalf("%+v waits with %+v\nchannel %v\nnot     %v", h, y, x, c)
+		}
+	default:
+		if y != (impl.Hand{}) || !sameChan(x, impl.Chan{}) {
+			t.Fatalf("%+v is refused with %+v\nchannel %v", h, y, x)
+		}
+	}
+}
+
+// Promise 19: there is an answer, of its kind, whatever is seen and is there.
 func TestSendStepAnswersAtEveryArgument(t *testing.T) {
 	chans, hands := sendCases()
 	for _, c := range chans {
 		for _, h := range hands {
-			x, y, is := impl.SendStep(c, h)
-			if is && (!impl.ChanOk(x) || !impl.HandOk(y) || y.At != impl.AtRest && (y.Call != h.Call || y.Begin != h.Begin)) {
-				t.Fatalf("%+v: %+v\nchannel %v", h, y, x)
-			}
-			if !is && (y != (impl.Hand{}) || !sameChan(x, impl.Chan{})) {
-				t.Fatalf("%+v is refused with %+v\nchannel %v", h, y, x)
-			}
 			told := h.At != impl.AtLook && h.At != impl.AtPut
 			switch state := c.Cells[h.Cell].State; h.At {
 			case impl.AtLook:
@@ -615,20 +668,38 @@ func TestSendStepAnswersAtEveryArgument(t *testing.T) {
 			case impl.AtPut:
 				told = h.Seen <= 1
 			}
-			if is != told {
-				t.Fatalf("%+v: %v\nchannel %v", h, is, c)
+			checkKind(t, impl.SendStep, c, h, told, false)
+		}
+	}
+}
+
+// oddNumbers are such as may be mistaken for others, and those next to limits.
+func oddNumbers() []int64 {
+	return []int64{
+		math.MinInt64, math.MinInt64 + 1, -1 << 32, -1, 0, 1, 2, 8, 9, 15, 16, 25, 26, 39, 40, 41, 80, 81,
+		1 << 32, 1<<32 + 1, 1<<32 + 2, math.MaxInt64 - 1, math.MaxInt64,
+	}
+}
+
+// checkListLengths asks that only just as many cells, and not more than as many words, have a step.
+func checkListLengths(t *testing.T, step stepFunc, from, to int64, call impl.Call) {
+	t.Helper()
+	for words := range 100 {
+		for cells := range 60 {
+			c := impl.Chan{Cells: make([]impl.Cell, cells), Words: make([]int64, words)}
+			for at := from; at <= to; at++ {
+				_, _, is := step(c, impl.Hand{At: at, Call: call})
+				if is != (cells == 40 && words <= 80) {
+					t.Fatalf("%d cells, %d words, at %d: %v", cells, words, at, is)
+				}
 			}
 		}
 	}
 }
 
 func TestSendStepOfOddNumbers(t *testing.T) {
-	odd := []int64{
-		math.MinInt64, math.MinInt64 + 1, -1 << 32, -1, 0, 1, 8, 9, 25, 26, 39, 40, 41, 80, 81,
-		1 << 32, 1<<32 + 1, math.MaxInt64 - 1, math.MaxInt64,
-	}
-	for _, n := range odd {
-		for _, m := range odd {
+	for _, n := range oddNumbers() {
+		for _, m := range oddNumbers() {
 			c := busyChan()
 			c.Sent, c.Got, c.End = n, m, m
 			h := handAt(impl.AtSend, aSend)
@@ -647,22 +718,46 @@ func TestSendStepOfOddNumbers(t *testing.T) {
 			}
 		}
 	}
-	for words := range 100 {
-		for cells := range 60 {
-			c := impl.Chan{Cells: make([]impl.Cell, cells), Words: make([]int64, words)}
-			for at := int64(impl.AtSend); at <= impl.AtDone; at++ {
-				_, _, is := impl.SendStep(c, impl.Hand{At: at, Call: aSend})
-				if is != (cells == 40 && words <= 80) {
-					t.Fatalf("%d cells, %d words, at %d: %v", cells, words, at, is)
-				}
+	checkListLengths(t, impl.SendStep, impl.AtSend, impl.AtDone, aSend)
+}
+
+// stepAnswers are the channels that each of those hands is answered with, refused or not.
+func stepAnswers(step stepFunc, c impl.Chan, hands []impl.Hand) []impl.Chan {
+	var answers []impl.Chan
+	for _, h := range hands {
+		x, _, _ := step(c, h)
+		answers = append(answers, x)
+	}
+	return answers
+}
+
+// checkNewMemory asks that who writes into an answer writes into no argument and into no other answer.
+func checkNewMemory(t *testing.T, step stepFunc, c impl.Chan, hands []impl.Hand) {
+	t.Helper()
+	before := cloneChan(c)
+	answers, want := stepAnswers(step, c, hands), stepAnswers(step, c, hands)
+	for i := range answers {
+		for k := range answers[i].Cells {
+			answers[i].Cells[k] = impl.Cell{State: -7, Elem: -7, Waiter: -7}
+		}
+		for k := range answers[i].Words {
+			answers[i].Words[k] = -7
+		}
+		answers[i].Words = append(answers[i].Words, -8)
+		answers[i].Cells = append(answers[i].Cells, impl.Cell{State: -8})
+		for k := i + 1; k < len(answers); k++ {
+			if !sameChan(answers[k], want[k]) {
+				t.Errorf("%d words: answers %d and %d share their memory", len(c.Words), i, k)
 			}
 		}
 	}
+	if !reflect.DeepEqual(c, before) {
+		t.Errorf("%d words: an answer shares its memory with the argument", len(c.Words))
+	}
 }
 
-// sendAnswers are the channels of each kind of step from c on: those that change it, and those that do not.
-func sendAnswers(t *testing.T, c impl.Chan) []impl.Chan {
-	t.Helper()
+// Promise 19: answers are new memory, of each kind of step: those that change the channel, and those that do not.
+func TestSendStepsAreNewMemory(t *testing.T) {
 	hands := []impl.Hand{
 		putHand(impl.CsNone, 11, 0, 0), putHand(impl.CsNone, 11, 12, 0), putHand(impl.CsIn, 11, 0, 0), putHand(impl.CsIn, 1, 0, 0),
 	}
@@ -672,67 +767,43 @@ func sendAnswers(t *testing.T, c impl.Chan) []impl.Chan {
 		told.Waiter = 2
 		hands = append(hands, h, told)
 	}
-	var answers []impl.Chan
-	for _, h := range hands {
-		x, _, is := impl.SendStep(c, h)
-		if !is {
-			t.Fatalf("%+v is refused", h)
-		}
-		answers = append(answers, x)
-	}
-	return answers
-}
-
-// Promise 19: who writes into an answer writes into no argument and into no other answer.
-func TestSendStepsAreNewMemory(t *testing.T) {
 	over := withCell(fullChan(), 11, impl.Cell{})
 	over.Cells[1] = impl.Cell{State: impl.CsIn}
 	for _, c := range []impl.Chan{withCell(busyChan(), 11, impl.Cell{}), over} {
-		before := cloneChan(c)
-		answers, want := sendAnswers(t, c), sendAnswers(t, c)
-		for i := range answers {
-			for k := range answers[i].Cells {
-				answers[i].Cells[k] = impl.Cell{State: -7, Elem: -7, Waiter: -7}
-			}
-			for k := range answers[i].Words {
-				answers[i].Words[k] = -7
-			}
-			answers[i].Words = append(answers[i].Words, -8)
-			answers[i].Cells = append(answers[i].Cells, impl.Cell{State: -8})
-			for k := i + 1; k < len(answers); k++ {
-				if !sameChan(answers[k], want[k]) {
-					t.Errorf("%d words: answers %d and %d share their memory", len(c.Words), i, k)
-				}
-			}
+		for _, h := range hands {
+			checkKind(t, impl.SendStep, c, h, true, false)
 		}
-		if !reflect.DeepEqual(c, before) {
-			t.Errorf("%d words: an answer shares its memory with the argument", len(c.Words))
-		}
+		checkNewMemory(t, impl.SendStep, c, hands)
 	}
 }
 
-// Promise 19: arguments stay, and the room behind them too, where one more word would fit in.
-func TestSendStepsLeaveTheirArguments(t *testing.T) {
+// checkArgumentsStay asks the same of the room behind them too, where one more word would fit in.
+func checkArgumentsStay(t *testing.T, step stepFunc, cell impl.Cell, hands []impl.Hand) {
+	t.Helper()
 	wide := fullChan()
 	wide.Cells = append(wide.Cells, impl.Cell{State: 77, Elem: 78, Waiter: 79})
 	wide.Words = append(make([]int64, impl.MaxWords), 76)
 	for i := range wide.Cells {
 		wide.Cells[i].Waiter = 0
 	}
-	wide.Cells[11], wide.Sent = impl.Cell{}, 4
-	before := cloneChan(wide)
-	_, hands := sendCases()
-	hands = append(hands, putHand(impl.CsNone, 11, 0, 0), putHand(impl.CsNone, 11, 40, 0))
-	handsBefore := slices.Clone(hands)
+	wide.Cells[11], wide.Sent, wide.Got = cell, 4, 5
+	before, handsBefore := cloneChan(wide), slices.Clone(hands)
 	for n := range impl.MaxWords + 2 {
 		c := wide
 		c.Cells, c.Words = wide.Cells[:impl.MaxCells], wide.Words[:n]
 		for _, h := range hands {
-			impl.SendStep(c, h)
-			impl.SendStep(wide, h)
+			step(c, h)
+			step(wide, h)
 		}
 	}
 	if !reflect.DeepEqual(wide, before) || !slices.Equal(hands, handsBefore) {
 		t.Error("an argument was written to")
 	}
+}
+
+// Promise 19: arguments stay.
+func TestSendStepsLeaveTheirArguments(t *testing.T) {
+	_, hands := sendCases()
+	hands = append(hands, putHand(impl.CsNone, 11, 0, 0), putHand(impl.CsNone, 11, 40, 0))
+	checkArgumentsStay(t, impl.SendStep, impl.Cell{}, hands)
 }
