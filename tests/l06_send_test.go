@@ -313,41 +313,38 @@ func TestSendPutsWhatCannotBeSeen(t *testing.T) {
 	}
 }
 
-// Each one who waits can be called: the first one, the last one, and each between. The cell is not asked for.
-func TestSendCalls(t *testing.T) {
-	for _, words := range []int{1, 2, impl.MaxWords - 1, impl.MaxWords} {
+// checkCalls asks whom the hand's Waiter names to be called: each one who waits can be, and the hand
+// is won then; who was told already, and whom there is not, can't be, and it is lost. No cell is asked.
+func checkCalls(t *testing.T, step stepFunc, h impl.Hand, won, lost func(h impl.Hand) impl.Hand) {
+	t.Helper()
+	for _, words := range []int{0, 1, 2, 20, impl.MaxWords - 1, impl.MaxWords} {
 		c := worded(make([]int64, words)...)
-		for w := int64(1); w <= int64(words); w++ {
-			h := handAt(impl.AtCall, aSend)
-			h.Waiter, h.Cell = w, w%impl.MaxCells
+		for i := 2; i < words; i += 3 {
+			c.Words[i-1], c.Words[i] = impl.WdCalled, impl.WdStopped
+		}
+		for w := int64(0); w <= impl.MaxWords; w++ {
+			h.Waiter, h.Cell, h.Grow = w, w%impl.MaxCells, (w+20)%impl.MaxCells
+			if w < 1 || w > int64(words) || c.Words[w-1] != 0 {
+				checkStep(t, step, c, h, c, lost(h))
+				continue
+			}
 			want := cloneChan(c)
 			want.Words[w-1] = impl.WdCalled
-			checkStep(t, impl.SendStep, c, h, want, movedTo(h, impl.AtDone))
+			checkStep(t, step, c, h, want, won(h))
 		}
 	}
 }
 
-func TestSendCallsWhoWasTold(t *testing.T) {
+// goesTo is what becomes of a hand that only moves.
+func goesTo(at int64) func(h impl.Hand) impl.Hand {
+	return func(h impl.Hand) impl.Hand { return movedTo(h, at) }
+}
+
+func TestSendCalls(t *testing.T) {
 	for _, begin := range []int64{0, 1, impl.MaxNow} {
-		for w, word := range busyChan().Words {
-			if word != 0 {
-				h := handAt(impl.AtCall, aSend)
-				h.Waiter, h.Begin = int64(w)+1, begin
-				checkStep(t, impl.SendStep, busyChan(), h, busyChan(), sendAnew(h))
-			}
-		}
-	}
-}
-
-// Whom there is not can't be told either.
-func TestSendCallsNobody(t *testing.T) {
-	for _, words := range []int{0, 1, impl.MaxWords - 1} {
-		c := worded(make([]int64, words)...)
-		for _, w := range []int64{0, int64(words) + 1, impl.MaxWords} {
-			h := handAt(impl.AtCall, aSend)
-			h.Waiter = w
-			checkStep(t, impl.SendStep, c, h, c, sendAnew(h))
-		}
+		h := handAt(impl.AtCall, aSend)
+		h.Begin = begin
+		checkCalls(t, impl.SendStep, h, goesTo(impl.AtDone), sendAnew)
 	}
 }
 
@@ -370,7 +367,7 @@ func doneAlone(t *testing.T, step stepFunc, c impl.Chan, call impl.Call, ends ..
 	var places []int64
 	for !slices.Contains(ends, h.At) {
 		next, hand, is := step(c, h)
-		if !is || len(places) > 20 {
+		if !is || len(places) > 200 {
 			t.Fatalf("%+v: %v, after %v", h, is, places)
 		}
 		c, h, places = next, hand, append(places, hand.At)

@@ -1,7 +1,6 @@
 package tests
 
 import (
-	"fmt"
 	"slices"
 	"testing"
 
@@ -313,41 +312,9 @@ func TestRecvTakesWhatCannotBeSeen(t *testing.T) {
 	}
 }
 
-// Each one who waits can be called: the first one, the last one, and each between. The cell is not asked for.
 func TestRecvWakes(t *testing.T) {
-	for _, words := range []int{1, 2, impl.MaxWords - 1, impl.MaxWords} {
-		c := worded(make([]int64, words)...)
-		for w := int64(1); w <= int64(words); w++ {
-			h := handAt(impl.AtWake, aRecv)
-			h.Waiter, h.Cell = w, w%impl.MaxCells
-			want := cloneChan(c)
-			want.Words[w-1] = impl.WdCalled
-			checkStep(t, impl.RecvStep, c, h, want, movedTo(h, impl.AtFinish))
-		}
-	}
-}
-
-// Be it that he was called, or that he was stopped.
-func TestRecvWakesWhoWasTold(t *testing.T) {
-	for w, word := range busyChan().Words {
-		if word != 0 {
-			for _, h := range eachThen(handAt(impl.AtWake, aRecv)) {
-				h.Waiter = int64(w) + 1
-				checkStep(t, impl.RecvStep, busyChan(), h, busyChan(), movedTo(h, impl.AtFail))
-			}
-		}
-	}
-}
-
-// Whom there is not can't be told either.
-func TestRecvWakesNobody(t *testing.T) {
-	for _, words := range []int{0, 1, impl.MaxWords - 1} {
-		c := worded(make([]int64, words)...)
-		for _, w := range []int64{0, int64(words) + 1, impl.MaxWords} {
-			h := handAt(impl.AtWake, aRecv)
-			h.Waiter = w
-			checkStep(t, impl.RecvStep, c, h, c, movedTo(h, impl.AtFail))
-		}
+	for _, h := range eachThen(handAt(impl.AtWake, aRecv)) {
+		checkCalls(t, impl.RecvStep, h, goesTo(impl.AtFinish), goesTo(impl.AtFail))
 	}
 }
 
@@ -519,31 +486,70 @@ func TestWhoParksBehindTheLastSender(t *testing.T) {
 	checkReceived(t, c, want, hand, impl.AtView, impl.AtSent, impl.AtTake, impl.AtGrow)
 }
 
-// turns are a channel and who is at it, by any order of steps.
+// moment is a channel and who is at it, so that those that are alike can be told. Nobody comes to
+// the cells that are left out, nor is there a word more.
+type moment struct {
+	sent, got, end, words int64
+	cells                 [reach]impl.Cell
+	word                  [reach]int64
+	hands                 [5]impl.Hand
+}
+
+// reach is how many cells there may be in use, lest two who go anew again and again should come to all.
+const reach = 8
+
+func momentOf(c impl.Chan, hands []impl.Hand) moment {
+	m := moment{sent: c.Sent, got: c.Got, end: c.End, words: int64(len(c.Words))}
+	copy(m.cells[:], c.Cells)
+	copy(m.word[:], c.Words)
+	copy(m.hands[:], hands)
+	return m
+}
+
+// turns are made in every order, till each one is at one of the places where he is done.
 type turns struct {
 	t     *testing.T
-	seen  map[string]bool
+	done  []int64
+	most  int64 // who takes a number from here on is passed over
+	stops bool  // may each one who is parked be stopped at any time?
+	seen  map[moment]bool
 	ends  int
 	check func(c impl.Chan, hands []impl.Hand)
 }
 
-// inAnyOrder makes each step that somebody can make, till all are at rest, parked, or to let one in.
+// placeStep is the step of the hand's place.
+func placeStep(c impl.Chan, h impl.Hand) (impl.Chan, impl.Hand, bool) {
+	switch {
+	case h.At <= impl.AtDone:
+		return impl.SendStep(c, h)
+	case h.At <= impl.AtFail:
+		return impl.RecvStep(c, h)
+	}
+	return impl.GrowStep(c, h)
+}
+
+// inAnyOrder makes each step that somebody can make. Where nobody can, all must be done.
 func (u *turns) inAnyOrder(c impl.Chan, hands []impl.Hand) {
-	key := fmt.Sprint(c.Sent, c.Got, c.Cells[:8], c.Words, hands) // nobody comes to the other cells
-	if u.seen[key] {
+	m := momentOf(c, hands)
+	if u.seen[m] || c.Sent > u.most || c.Got > u.most {
 		return
 	}
-	u.seen[key] = true
-	moves := 0
+	u.seen[m] = true
+	moves, waits := 0, 0
 	for who, h := range hands {
-		if slices.Contains([]int64{impl.AtRest, impl.AtPark, impl.AtGrow}, h.At) {
+		if u.stops && h.At == impl.AtPark {
+			if x, is := impl.Told(c, h.Mine, impl.WdStopped); is {
+				u.inAnyOrder(x, hands)
+			}
+		}
+		if slices.Contains(u.done, h.At) {
 			continue
 		}
-		step := stepFunc(impl.SendStep)
-		if h.Call.Code == impl.OpRecv {
-			step = impl.RecvStep
+		x, y, is := placeStep(c, h)
+		if !is && y == h {
+			waits++
+			continue
 		}
-		x, y, is := step(c, h)
 		if !is {
 			u.t.Fatalf("no step of %+v\nchannel %v", h, c)
 		}
@@ -552,10 +558,14 @@ func (u *turns) inAnyOrder(c impl.Chan, hands []impl.Hand) {
 		u.inAnyOrder(x, next)
 		moves++
 	}
-	if moves == 0 {
-		u.ends++
-		u.check(c, hands)
+	if moves > 0 {
+		return
 	}
+	if waits > 0 {
+		u.t.Fatalf("nobody can go on: %+v\nchannel %v", hands, c)
+	}
+	u.ends++
+	u.check(c, hands)
 }
 
 // served lists what was sent by then, and what was received by then, both sorted.
@@ -563,11 +573,13 @@ func served(c impl.Chan, hands []impl.Hand, elems []int64) (sent, got []int64) {
 	for who, h := range hands {
 		called := h.Mine > 0 && impl.WordOf(c, h.Mine) == impl.WdCalled
 		switch {
-		case elems[who] > 0 && (h.Reply == impl.RpOk || h.At == impl.AtPark && called):
-			sent = append(sent, elems[who])
-		case h.At == impl.AtGrow && h.Then == impl.ThRest:
+		case elems[who] > 0:
+			if h.Reply == impl.RpOk || h.At == impl.AtPark && called {
+				sent = append(sent, elems[who])
+			}
+		case h.Reply == impl.RpValue, h.At == impl.AtGrow && h.Then == impl.ThRest:
 			got = append(got, h.Out)
-		case h.At == impl.AtGrow && h.Then == impl.ThPark && called:
+		case h.Then == impl.ThPark && called:
 			got = append(got, c.Cells[h.Cell].Elem)
 		}
 	}
@@ -576,31 +588,45 @@ func served(c impl.Chan, hands []impl.Hand, elems []int64) (sent, got []int64) {
 	return sent, got
 }
 
-// Senders and receivers by turns, in every order: what was sent was received, or is kept, each once.
+// checkServed asks that what was sent was received, or is kept, each once.
+func checkServed(t *testing.T, c impl.Chan, hands []impl.Hand, elems []int64) {
+	t.Helper()
+	sent, got := served(c, hands, elems)
+	all := append(got, impl.KeptIn(c)...)
+	slices.Sort(all)
+	if !slices.Equal(sent, all) {
+		t.Fatalf("elems %v: %v were sent, %v received or kept\n%+v\nchannel %v", elems, sent, all, hands, c)
+	}
+}
+
+// comers are the hands of who sends those, and of who receives for each 0.
+func comers(elems []int64) []impl.Hand {
+	var hands []impl.Hand
+	for _, elem := range elems {
+		h := impl.Hand{At: impl.AtRecv, Call: aRecv}
+		if elem > 0 {
+			h = impl.Hand{At: impl.AtSend, Call: impl.Call{Code: impl.OpSend, Elem: elem}}
+		}
+		hands = append(hands, h)
+	}
+	return hands
+}
+
+// Senders and receivers by turns, in every order, till those who receive are to let one in.
 func TestSendersAndReceiversInAnyOrder(t *testing.T) {
 	for _, elems := range [][]int64{{7, 0}, {7, 0, 0}, {7, 8, 0}, {7, 8, 0, 0}} {
 		for cap := int64(0); cap <= 2; cap++ {
 			if len(elems) > 3 && cap != 1 {
 				continue // these orders are many, and a buffer of one has both kinds of cells
 			}
-			var hands []impl.Hand
-			for _, elem := range elems {
-				h := impl.Hand{At: impl.AtRecv, Call: aRecv}
-				if elem > 0 {
-					h = impl.Hand{At: impl.AtSend, Call: impl.Call{Code: impl.OpSend, Elem: elem}}
-				}
-				hands = append(hands, h)
-			}
-			u := turns{t: t, seen: map[string]bool{}}
+			u := turns{t: t, done: []int64{impl.AtRest, impl.AtPark, impl.AtGrow}, most: reach, seen: map[moment]bool{}}
 			u.check = func(c impl.Chan, hands []impl.Hand) {
-				sent, got := served(c, hands, elems)
-				all := append(got, impl.KeptIn(c)...)
-				slices.Sort(all)
-				if !slices.Equal(sent, all) || !checkPoison(c, hands) {
-					t.Fatalf("cap %d, elems %v: %v were sent, %v received or kept\n%+v\nchannel %v", cap, elems, sent, all, hands, c)
+				checkServed(t, c, hands, elems)
+				if !checkPoison(c, hands) {
+					t.Fatalf("cap %d, elems %v: %+v\nchannel %v", cap, elems, hands, c)
 				}
 			}
-			u.inAnyOrder(impl.NewChan(cap), hands)
+			u.inAnyOrder(impl.NewChan(cap), comers(elems))
 			if u.ends < 3 {
 				t.Errorf("cap %d, elems %v: only %d ends", cap, elems, u.ends)
 			}
