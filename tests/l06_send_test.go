@@ -513,7 +513,9 @@ func checkWrongChans(t *testing.T, step stepFunc, call impl.Call) {
 	t.Helper()
 	for _, c := range wrongChans() {
 		for at := int64(impl.AtSend); at <= impl.AtMark; at++ {
-			checkRefused(t, step, c, impl.Hand{At: at, Call: call})
+			for mine := int64(0); mine <= 3; mine++ { // each word, which only who is parked asks for
+				checkRefused(t, step, c, impl.Hand{At: at, Call: call, Mine: mine})
+			}
 		}
 		checkRefused(t, step, c, impl.Resting(0, 0))
 	}

@@ -524,11 +524,13 @@ func placeStep(c impl.Chan, h impl.Hand) (impl.Chan, impl.Hand, bool) {
 		return impl.SendStep(c, h)
 	case h.At <= impl.AtFail:
 		return impl.RecvStep(c, h)
+	case h.At <= impl.AtLose:
+		return impl.GrowStep(c, h)
 	}
-	return impl.GrowStep(c, h)
+	return impl.ParkStep(c, h)
 }
 
-// inAnyOrder makes each step that somebody can make. Where nobody can, all must be done.
+// inAnyOrder makes each step that somebody can make. Where nobody can, all must be done, or parked.
 func (u *turns) inAnyOrder(c impl.Chan, hands []impl.Hand) {
 	m := momentOf(c, hands)
 	if u.seen[m] || c.Sent > u.most || c.Got > u.most {
@@ -547,7 +549,9 @@ func (u *turns) inAnyOrder(c impl.Chan, hands []impl.Hand) {
 		}
 		x, y, is := placeStep(c, h)
 		if !is && y == h {
-			waits++
+			if h.At != impl.AtPark { // where one may wait for ever
+				waits++
+			}
 			continue
 		}
 		if !is {
