@@ -509,6 +509,7 @@ func momentOf(c impl.Chan, hands []impl.Hand) moment {
 // turns are made in every order, till each one is at one of the places where he is done.
 type turns struct {
 	t     *testing.T
+	step  stepFunc
 	done  []int64
 	most  int64 // who takes a number from here on is passed over
 	stops bool  // may each one who is parked be stopped at any time?
@@ -547,7 +548,7 @@ func (u *turns) inAnyOrder(c impl.Chan, hands []impl.Hand) {
 		if slices.Contains(u.done, h.At) {
 			continue
 		}
-		x, y, is := placeStep(c, h)
+		x, y, is := u.step(c, h)
 		if !is && y == h {
 			if h.At != impl.AtPark { // where one may wait for ever
 				waits++
@@ -623,7 +624,7 @@ func TestSendersAndReceiversInAnyOrder(t *testing.T) {
 			if len(elems) > 3 && cap != 1 {
 				continue // these orders are many, and a buffer of one has both kinds of cells
 			}
-			u := turns{t: t, done: []int64{impl.AtRest, impl.AtPark, impl.AtGrow}, most: reach, seen: map[moment]bool{}}
+			u := turns{t: t, step: placeStep, done: []int64{impl.AtRest, impl.AtPark, impl.AtGrow}, most: reach, seen: map[moment]bool{}}
 			u.check = func(c impl.Chan, hands []impl.Hand) {
 				checkServed(t, c, hands, elems)
 				if !checkPoison(c, hands) {

@@ -521,7 +521,7 @@ func checkLetIn(t *testing.T, c impl.Chan, hands []impl.Hand) {
 // wholeTurns are turns till all are at rest or parked.
 func wholeTurns(t *testing.T, most int64, elems []int64) turns {
 	return turns{
-		t: t, done: []int64{impl.AtRest, impl.AtPark}, most: most, seen: map[moment]bool{},
+		t: t, step: placeStep, done: []int64{impl.AtRest, impl.AtPark}, most: most, seen: map[moment]bool{},
 		check: func(c impl.Chan, hands []impl.Hand) {
 			checkServed(t, c, hands, elems)
 			checkLetIn(t, c, hands)
