@@ -38,8 +38,11 @@ func handParts() []handPart {
 }
 
 // past lists numbers that the part may not be.
-func (p handPart) past() []int64 {
-	return slices.DeleteFunc(outOf(p.most), func(n int64) bool { return n >= 0 && n <= p.most })
+func (p handPart) past() []int64 { return beyond(p.most) }
+
+// beyond is outOf where a narrower integer would wrap within the range too.
+func beyond(most int64) []int64 {
+	return slices.DeleteFunc(outOf(most), func(n int64) bool { return n >= 0 && n <= most })
 }
 
 // fullHand is right and meets every limit exactly.
