@@ -757,8 +757,9 @@ func TestSteppedStays(t *testing.T) {
 type worldTurns struct {
 	t     *testing.T
 	calls [][]impl.Call
-	most  int64 // who takes a number from here on is passed over
-	stops bool  // may each one who is parked be stopped at any time?
+	most  int64              // who takes a number from here on is passed over
+	stops bool               // may each one who is parked be stopped at any time?
+	each  func(w impl.World) // what is asked of each world that is come by, if anything
 	seen  map[worldMoment]bool
 	ends  int
 }
@@ -786,6 +787,9 @@ func (u *worldTurns) inAnyOrder(w impl.World, asked []int, begins []int64) {
 		return
 	}
 	u.seen[m] = true
+	if u.each != nil {
+		u.each(w)
+	}
 	went := false
 	for who := range w.Hands {
 		h := w.Hands[who]
@@ -793,13 +797,12 @@ func (u *worldTurns) inAnyOrder(w impl.World, asked []int, begins []int64) {
 		case h.At != impl.AtRest:
 			if x, is := checkStepped(u.t, w, int64(who)); is {
 				checkDeal(u.t, w, x, int64(who), u.calls[who][asked[who]-1], begins[who])
+				checkHeeds(u.t, w, x, int64(who))
 				u.inAnyOrder(x, asked, begins)
 				went = true
 			}
-			if x, is := impl.Told(w.Chan, h.Mine, impl.WdStopped); u.stops && is && h.At == impl.AtPark {
-				told := cloneWorld(w)
-				told.Chan = x
-				u.inAnyOrder(told, asked, begins)
+			if x, is := checkStopped(u.t, w, int64(who)); u.stops && is {
+				u.inAnyOrder(x, asked, begins)
 				went = true
 			}
 		case asked[who] < len(u.calls[who]):
@@ -913,11 +916,12 @@ func thrownWorlds(t *testing.T, cap, tasks int64, seed, turns int) []impl.World 
 			w, _ = checkAsked(t, w, who, calls[who])
 			begins[who] = w.Now
 		case h.At == impl.AtPark && d.under(8) == 0:
-			w.Chan, _ = impl.Told(w.Chan, h.Mine, impl.WdStopped)
+			w, _ = checkStopped(t, w, who)
 		default:
 			x, is := checkStepped(t, w, who)
 			if is {
 				checkDeal(t, w, x, who, calls[who], begins[who])
+				checkHeeds(t, w, x, who)
 			}
 			w = x
 		}
@@ -977,7 +981,7 @@ func TestWorldOfASenderAndAReceiver(t *testing.T) {
 	}
 	w, _ = checkAsked(t, w, 0, aRecv)
 	w, _ = checkAlone(t, w, 0, impl.MaxNow)
-	w.Chan, _ = impl.Told(w.Chan, w.Hands[0].Mine, impl.WdStopped)
+	w, _ = checkStopped(t, w, 0)
 	w, n := checkAlone(t, w, 0, 2)
 	gone := impl.Deal{Task: 0, Call: aRecv, Begin: 16, End: w.Now, Reply: impl.RpStopped}
 	if n != 2 || !slices.Equal(w.Deals, []impl.Deal{got, sent, gone}) {
@@ -990,13 +994,17 @@ func askedWorld(t *testing.T, cap int64, elems ...int64) impl.World {
 	t.Helper()
 	w, _ := impl.NewWorld(cap, int64(len(elems)))
 	for who, e := range elems {
-		c := impl.Call{Code: impl.OpSend, Elem: e}
-		if e == 0 {
-			c = aRecv
-		}
-		w, _ = checkAsked(t, w, int64(who), c)
+		w, _ = checkAsked(t, w, int64(who), callOf(e))
 	}
 	return w
+}
+
+// callOf is to send that, or to receive where it is 0.
+func callOf(elem int64) impl.Call {
+	if elem == 0 {
+		return aRecv
+	}
+	return impl.Call{Code: impl.OpSend, Elem: elem}
 }
 
 // In a round each task has one step, in order: they take their numbers so, and rest so.
@@ -1352,11 +1360,18 @@ func manyWorlds(t *testing.T) []impl.World {
 	return append(append(rightWorlds(), askedWorld(t, 1, 5, 6, 0), settled), append(worlds, full[0])...)
 }
 
-// Promise 19: answers are new memory: who writes into one writes into no argument and into no other answer.
-func TestWorldsAreNewMemory(t *testing.T) {
-	for i, w := range manyWorlds(t) {
+// worldsOf lists what is answered of a world.
+type worldsOf func(w impl.World) []impl.World
+
+// Promise 19: answers are new memory.
+func TestWorldsAreNewMemory(t *testing.T) { checkNewWorlds(t, manyWorlds(t), worldAnswers) }
+
+// checkNewWorlds asks that who writes into an answer writes into no argument and into no other answer.
+func checkNewWorlds(t *testing.T, worlds []impl.World, answersOf worldsOf) {
+	t.Helper()
+	for i, w := range worlds {
 		before := cloneWorld(w)
-		answers, want := worldAnswers(w), worldAnswers(w)
+		answers, want := answersOf(w), answersOf(w)
 		for k := range answers {
 			scribble(answers[k])
 			if k+1 < len(answers) && !sameWorld(answers[k+1], want[k+1]) {
@@ -1366,21 +1381,24 @@ func TestWorldsAreNewMemory(t *testing.T) {
 				t.Fatalf("world %d: answer %d shares its memory with the argument", i, k)
 			}
 		}
-		if again := worldAnswers(w); !slices.EqualFunc(again, want, sameWorld) {
+		if again := answersOf(w); !slices.EqualFunc(again, want, sameWorld) {
 			t.Fatalf("world %d is answered another way behind that", i)
 		}
 	}
 }
 
 // Promise 19: no two lists of one answer share any memory, nor the room behind them.
-func TestWorldsHaveListsOfTheirOwn(t *testing.T) {
+func TestWorldsHaveListsOfTheirOwn(t *testing.T) { checkOwnLists(t, manyWorlds(t), worldAnswers) }
+
+func checkOwnLists(t *testing.T, worlds []impl.World, answersOf worldsOf) {
+	t.Helper()
 	without := []func(w *impl.World){
 		func(w *impl.World) { w.Chan.Cells = nil }, func(w *impl.World) { w.Chan.Words = nil },
 		func(w *impl.World) { w.Hands = nil }, func(w *impl.World) { w.Deals = nil },
 	}
-	for i, w := range manyWorlds(t) {
+	for i, w := range worlds {
 		for list, into := range scribbles() {
-			for k, x := range worldAnswers(w) {
+			for k, x := range answersOf(w) {
 				want := cloneWorld(x)
 				into(x)
 				without[list](&x)
@@ -1407,19 +1425,22 @@ func widened(w impl.World) (narrow, wide impl.World) {
 }
 
 // Promise 19: arguments stay, and the room behind them too, where one more Deal or word would fit in.
-func TestWorldsLeaveTheirArguments(t *testing.T) {
-	for i, w := range manyWorlds(t) {
+func TestWorldsLeaveTheirArguments(t *testing.T) { checkWorldsStay(t, manyWorlds(t), worldAnswers) }
+
+func checkWorldsStay(t *testing.T, worlds []impl.World, answersOf worldsOf) {
+	t.Helper()
+	for i, w := range worlds {
 		narrow, wide := widened(w)
 		before := cloneWorld(wide)
 		if !impl.WorldOk(narrow) || impl.WorldOk(wide) {
 			t.Fatalf("world %d: what is behind it is asked", i)
 		}
-		answers := worldAnswers(narrow)
-		worldAnswers(wide)
+		answers := answersOf(narrow)
+		answersOf(wide)
 		if !reflect.DeepEqual(wide, before) {
 			t.Fatalf("world %d was written to", i)
 		}
-		if !slices.EqualFunc(answers, worldAnswers(w), sameWorld) {
+		if !slices.EqualFunc(answers, answersOf(w), sameWorld) {
 			t.Fatalf("world %d: what is behind it is in an answer", i)
 		}
 		for _, x := range answers {
