@@ -337,9 +337,12 @@ func rightWorlds() []impl.World {
 }
 
 // wrongWorlds lists worlds with just one thing that is not right, by what that is.
-func wrongWorlds() map[string]impl.World {
+func wrongWorlds() map[string]impl.World { return wrongsOf(rightWorlds()) }
+
+// wrongsOf lists what becomes of right worlds, in each of which there is a Deal, by one thing that is not right.
+func wrongsOf(worlds []impl.World) map[string]impl.World {
 	list := map[string]impl.World{"zero": {}}
-	for i, right := range rightWorlds() {
+	for i, right := range worlds {
 		put := func(name string, change func(w *impl.World)) {
 			w := cloneWorld(right)
 			change(&w)
